@@ -77,7 +77,7 @@ var (
 )
 
 // formFault is what is wrong with bytes that are read, or with what is to be
-// laid down: the code tells which of the two.
+// laid down or written: the code tells which of these.
 type formFault struct {
 	code int
 }
