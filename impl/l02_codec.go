@@ -62,6 +62,7 @@ type Snap struct {
 const (
 	rootBytes  = 64
 	inodeBytes = 128
+	wordBytes  = BlockSize / Fanout
 	sumAt      = BlockSize - 4
 )
 
@@ -249,10 +250,19 @@ func Crc32(data []byte) uint32 {
 	return ^sum
 }
 
+// firstBlock is the least block behind the two copies of the root record.
+const firstBlock = 2
+
+// isBlock says whether b is a block of a device of so many that may be in use
+// for something other than the root record.
+func isBlock(b, blocks int) bool {
+	return b >= firstBlock && b < blocks
+}
+
 // isPointer says whether p is a hole or a block that may hang in a tree of a
 // device of so many blocks.
 func isPointer(p, blocks int) bool {
-	return p == 0 || p >= 2 && p < blocks
+	return p == 0 || isBlock(p, blocks)
 }
 
 // blocksOf is how many data blocks so many bytes take. (Size is not negative.)
@@ -411,14 +421,14 @@ func fsinfoFault(f Fsinfo, code int) error {
 	c.within("Clock", f.Clock, 1, MaxClock)
 	c.within("Ops", f.Ops, 0, MaxClock)
 	c.within("Blocks", f.Blocks, MinBlocks, MaxBlocks)
-	c.need("Cursor", f.Cursor >= 2 && f.Cursor < f.Blocks)
+	c.need("Cursor", isBlock(f.Cursor, f.Blocks))
 	c.within("Every", f.Every, 0, MaxEvery)
 	c.need("Log", f.Log == 0 || f.Log >= MinLog && f.Log <= MaxLog)
 	c.inside("Ino", tableRootFault(f.Ino, code))
 	c.inside("Ino", pointersFault(f.Ino, f.Blocks, code))
 	c.inside("Map", rootFault(f.Map, code))
 	c.inside("Map", pointersFault(f.Map, f.Blocks, code))
-	c.need("Map", f.Map.Size%4 == 0 && f.Map.Size/4 == f.Blocks)
+	c.need("Map", f.Map.Size%wordBytes == 0 && f.Map.Size/wordBytes == f.Blocks)
 	for _, p := range f.Snaps {
 		c.need("Snaps", isPointer(p, f.Blocks))
 	}
@@ -544,14 +554,18 @@ func EncodeWords(w []int) ([]byte, int) {
 
 // DecodeWords reads words, see chapter 3.
 func DecodeWords(b []byte) ([]int, int) {
-	r := newReader(b)
-	r.need("length", len(b) == BlockSize)
-	if r.err != nil {
-		return nil, codeOf(r.err)
+	if len(b) != BlockSize {
+		return nil, ErrCorrupt
 	}
-	words := make([]int, Fanout)
+	return wordsOf(b), OK
+}
+
+// wordsOf reads words, as many as the bytes have whole.
+func wordsOf(b []byte) []int {
+	r := newReader(b)
+	words := make([]int, len(b)/wordBytes)
 	for i := range words {
 		words[i] = number[uint32](r)
 	}
-	return words, OK
+	return words
 }
