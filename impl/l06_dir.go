@@ -1,6 +1,7 @@
 package impl
 
 import (
+	"iter"
 	"slices"
 	"strings"
 )
@@ -118,6 +119,26 @@ func (d *directory) put(slot int, entry Dirent) {
 func (d *directory) endsEmpty() bool {
 	rest := len(d.entries) - slotsPerBlock
 	return rest >= 0 && slotBlock(d.entries[rest:]) == slotBlock{}
+}
+
+// find tells the entry of a name, and whether there is one.
+func (d *directory) find(name string) (Dirent, bool) {
+	slot, found := d.slots[name]
+	if !found {
+		return Dirent{}, false
+	}
+	return d.entries[slot], true
+}
+
+// all tells the entries by slot, without the empty ones.
+func (d *directory) all() iter.Seq[Dirent] {
+	return func(yield func(Dirent) bool) {
+		for _, entry := range d.entries {
+			if entry != (Dirent{}) && !yield(entry) {
+				return
+			}
+		}
+	}
 }
 
 // add puts an entry, whose name isn't there, into the first empty slot; it answers
