@@ -2,6 +2,7 @@ package impl
 
 import (
 	"iter"
+	"maps"
 	"slices"
 	"strings"
 )
@@ -141,6 +142,11 @@ func (d *directory) all() iter.Seq[Dirent] {
 	}
 }
 
+// copied is a directory that can be changed without this one.
+func (d *directory) copied() *directory {
+	return &directory{entries: slices.Clone(d.entries), slots: maps.Clone(d.slots)}
+}
+
 // add puts an entry, whose name isn't there, into the first empty slot; it answers
 // whether the directory had one or could grow.
 func (d *directory) add(entry Dirent) bool {
@@ -155,6 +161,11 @@ func (d *directory) add(entry Dirent) bool {
 	}
 	d.put(slot, entry)
 	return true
+}
+
+// replace puts an entry, whose name is there, into the slot of that name.
+func (d *directory) replace(entry Dirent) {
+	d.put(d.slots[entry.Name], entry)
 }
 
 // remove takes a name that is there away, and the blocks at the end that have no

@@ -59,7 +59,7 @@ func plainlyRight(content []byte) ([]impl.Dirent, bool) {
 	if len(content)%512 != 0 || len(content) > 262144 {
 		return nil, false
 	}
-	slots := []impl.Dirent{}
+	slots, names := []impl.Dirent{}, map[string]bool{}
 	for at := 0; at < len(content); at += 32 {
 		s := content[at : at+32]
 		if bytes.Equal(s, make([]byte, 32)) {
@@ -74,11 +74,10 @@ func plainlyRight(content []byte) ([]impl.Dirent, bool) {
 		if name == "." || name == ".." || strings.ContainsAny(name, "/\x00") || strings.Trim(string(s[6+length:]), "\x00") != "" {
 			return nil, false
 		}
-		for _, other := range slots {
-			if other.Name == name {
-				return nil, false
-			}
+		if names[name] {
+			return nil, false
 		}
+		names[name] = true
 		slots = append(slots, impl.Dirent{Name: name, Ino: int(ino), Kind: int(kind)})
 	}
 	if len(content) > 0 && bytes.Equal(content[len(content)-512:], make([]byte, 512)) {
