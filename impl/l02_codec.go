@@ -415,6 +415,11 @@ func DecodeInode(b []byte) (Inode, int) {
 	return told(i, r.err)
 }
 
+// isLog says whether a log may have so many bytes; 0 is none.
+func isLog(size int) bool {
+	return size == 0 || size >= MinLog && size <= MaxLog
+}
+
 func fsinfoFault(f Fsinfo, code int) error {
 	c := check{code: code}
 	c.within("Gen", f.Gen, 1, MaxClock)
@@ -423,7 +428,7 @@ func fsinfoFault(f Fsinfo, code int) error {
 	c.within("Blocks", f.Blocks, MinBlocks, MaxBlocks)
 	c.need("Cursor", isBlock(f.Cursor, f.Blocks))
 	c.within("Every", f.Every, 0, MaxEvery)
-	c.need("Log", f.Log == 0 || f.Log >= MinLog && f.Log <= MaxLog)
+	c.need("Log", isLog(f.Log))
 	c.inside("Ino", tableRootFault(f.Ino, code))
 	c.inside("Ino", pointersFault(f.Ino, f.Blocks, code))
 	c.inside("Map", rootFault(f.Map, code))

@@ -103,8 +103,9 @@ func plainRead(image []byte, r impl.Root) ([]byte, []int, int) {
 	return content[:r.Size], p.order, impl.OK
 }
 
-// plainWrite writes a tree by the letter of chapter 4. (ref and image are right.)
-func plainWrite(image []byte, ref impl.Root, content []byte, free []int) (impl.Root, []impl.Put, int) {
+// plainRenew writes a tree by the letter of chapter 4, with whatever numbers.
+// (ref and image are right.)
+func plainRenew(image []byte, ref impl.Root, content []byte, free []int) (impl.Root, []impl.Put, int) {
 	if len(content) > impl.MaxFile {
 		return impl.Root{}, nil, impl.ErrFbig
 	}
@@ -159,15 +160,21 @@ func plainWrite(image []byte, ref impl.Root, content []byte, free []int) (impl.R
 		outer[k] = pointer(data[140+128*k:268+128*k], old.below[k])
 	}
 	r.Double = pointer(outer, old.double)
-	for _, p := range puts {
-		if code == impl.OK && (p.Block < 2 || p.Block >= len(image)/blockBytes) {
-			code = impl.ErrRange
-		}
-	}
 	if code != impl.OK {
 		return impl.Root{}, nil, code
 	}
 	return r, puts, impl.OK
+}
+
+// plainWrite looks at the numbers too.
+func plainWrite(image []byte, ref impl.Root, content []byte, free []int) (impl.Root, []impl.Put, int) {
+	r, puts, code := plainRenew(image, ref, content, free)
+	for _, p := range puts {
+		if p.Block < 2 || p.Block >= len(image)/blockBytes {
+			return impl.Root{}, nil, impl.ErrRange
+		}
+	}
+	return r, puts, code
 }
 
 func samePuts(a, b []impl.Put) bool {
