@@ -183,17 +183,24 @@ func survivorsOf(choice []byte) func(i int) bool {
 	}
 }
 
+// powerFailed says whether what a recover told is the power's failing. Whatever else
+// was thrown goes on.
+func powerFailed(thrown any) bool {
+	if thrown == nil {
+		return false
+	}
+	if _, failed := thrown.(powerFailure); !failed {
+		panic(thrown)
+	}
+	return true
+}
+
 // carryOut does one operation; a power failure inside of it ends here.
 func (d *device) carryOut(op DiskOp) (ans DiskAns) {
 	defer func() {
-		thrown := recover()
-		if thrown == nil {
-			return
+		if powerFailed(recover()) {
+			ans = DiskAns{Code: ErrPower}
 		}
-		if _, failed := thrown.(powerFailure); !failed {
-			panic(thrown)
-		}
-		ans = DiskAns{Code: ErrPower}
 	}()
 	if d.off && op.Kind != DiskFuse && op.Kind != DiskCrash {
 		return DiskAns{Code: ErrPower}

@@ -565,12 +565,13 @@ func DecodeWords(b []byte) ([]int, int) {
 	return wordsOf(b), OK
 }
 
-// wordsOf reads words, as many as the bytes have whole.
+// wordsOf reads words, as many as the bytes have whole. It does without a reader, since
+// an image has very many of them.
 func wordsOf(b []byte) []int {
-	r := newReader(b)
 	words := make([]int, len(b)/wordBytes)
 	for i := range words {
-		words[i] = number[uint32](r)
+		w := [wordBytes]byte(b[i*wordBytes:])
+		words[i] = int(w[0]) | int(w[1])<<8 | int(w[2])<<16 | int(w[3])<<24
 	}
 	return words
 }
