@@ -51,23 +51,31 @@ func spoil(p *planter, op *impl.Op, has standing) {
 // tooLong is a path that leads where another one does, but has too many bytes.
 func tooLong(path string) string { return strings.Repeat("/", 600) + path }
 
-// inOrder plays a scene without troubles, with each of them alone, with each two
-// of them that can stand together, and with each and all those behind it that can:
-// the first one that stands gives the code.
+// inOrder plays a scene, see eachOrder.
 func inOrder(t *testing.T, kind string, order []trouble, play scene) {
 	t.Helper()
-	try := func(has standing, code int) bool {
+	eachOrder(t, kind, order, func(what string, has standing, code int) bool {
 		s, op, can := play(has)
 		if can {
-			what := kind
-			for _, one := range order {
-				if has[one.name] {
-					what += ", " + one.name
-				}
-			}
 			does(t, what, s, op, code)
 		}
 		return can
+	})
+}
+
+// eachOrder tries an operation without troubles, with each of them alone, with each
+// two of them that can stand together, and with each and all those behind it that can:
+// the first one that stands gives the code. What tries says whether they can.
+func eachOrder(t *testing.T, kind string, order []trouble, tries func(what string, has standing, code int) bool) {
+	t.Helper()
+	try := func(has standing, code int) bool {
+		what := kind
+		for _, one := range order {
+			if has[one.name] {
+				what += ", " + one.name
+			}
+		}
+		return tries(what, has, code)
 	}
 	if !try(standing{}, impl.OK) {
 		t.Errorf("%s: no scene", kind)
@@ -80,11 +88,10 @@ func inOrder(t *testing.T, kind string, order []trouble, play scene) {
 		for _, other := range order[k+1:] {
 			try(standing{first.name: true, other.name: true}, first.code)
 			all[other.name] = true
-			if _, _, can := play(all); !can {
+			if !try(all, first.code) {
 				delete(all, other.name)
 			}
 		}
-		try(all, first.code)
 	}
 }
 
