@@ -399,6 +399,7 @@ func keepsPromise(t *testing.T, name string, image []byte, s impl.State, ops int
 		}
 	}
 	behind := switched(t, image, out)
+	spotless(t, name, behind)
 	if got, slot, code := impl.ChooseFsinfo(behind); got != out.Info || slot != 0 || code != impl.OK || !bytes.Equal(behind[:512], behind[512:1024]) {
 		t.Errorf("%s: the record behind it: %v, block %d, code %d", name, got, slot, code)
 	}

@@ -142,9 +142,11 @@ func anyOf(s impl.State, states ...impl.State) bool {
 	return slices.ContainsFunc(states, func(other impl.State) bool { return sameState(s, other) })
 }
 
-// soundMap says whether the map of a volume is what its planes reach.
+// soundMap says whether the map of a volume is what its planes reach, by the auditor's
+// word too.
 func soundMap(t *testing.T, name string, m impl.Machine) {
 	t.Helper()
+	spotless(t, name, m.Disk)
 	if words, code := impl.MapWords(m.Disk); code != impl.OK || !slices.Equal(words, reachedPlanes(t, name, m.Disk)) || hungTwice(m.Disk) {
 		t.Errorf("%s: the map isn't right, code %d", name, code)
 	}
