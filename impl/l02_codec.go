@@ -63,13 +63,14 @@ const (
 	rootBytes  = 64
 	inodeBytes = 128
 	wordBytes  = BlockSize / Fanout
-	sumAt      = BlockSize - 4
+	sumBytes   = 4
+	sumAt      = BlockSize - sumBytes
 )
 
 // maxWord is the greatest word of a block of pointers or of the map.
 const maxWord = 1<<32 - 1
 
-// letters are what the block of a form begins with.
+// letters are what the block of a form, or a stream, begins with.
 type letters [8]byte
 
 var (
@@ -176,16 +177,27 @@ func newReader(data []byte) *reader {
 	return &reader{check: check{code: ErrCorrupt}, data: data}
 }
 
-// newBlockReader stands behind the letters of a block whose sum is right and
-// ends ahead of that sum.
-func newBlockReader(block []byte, want letters) *reader {
-	r := newReader(block)
-	r.need("length", len(block) == BlockSize)
+// newBlockReader is newSealedReader of a block.
+func newBlockReader(data []byte, want letters) *reader {
+	if len(data) != BlockSize {
+		r := newReader(nil)
+		r.need("length", false)
+		return r
+	}
+	return newSealedReader(data, want)
+}
+
+// newSealedReader stands behind the letters of bytes that end with their sum, which is
+// right, and ends ahead of that sum.
+func newSealedReader(data []byte, want letters) *reader {
+	r := newReader(data)
+	r.need("length", len(data) >= sumBytes)
 	if r.err != nil {
 		return r
 	}
-	sum := number[uint32](newReader(block[sumAt:]))
-	r.data = block[:sumAt]
+	end := len(data) - sumBytes
+	sum := number[uint32](newReader(data[end:]))
+	r.data = data[:end]
 	r.need("sum", uint32(sum) == Crc32(r.data))
 	var found letters
 	copy(found[:], r.take(len(found)))

@@ -212,6 +212,7 @@ func TestAuditsWithoutATable(t *testing.T) {
 // The tree of an inode that can't be read, whichever inode it is, and wherever in the
 // tree the pointer is wrong.
 func TestAuditsWithoutAnInodesTree(t *testing.T) {
+	t.Parallel()
 	m := shelf(t, 200)
 	whole := m.settled(t)
 	own := map[int]impl.Root{0: m.info.Ino}
@@ -356,6 +357,7 @@ func TestAuditsOfTheGreatestTangle(t *testing.T) {
 
 // Hurt volumes are audited as the rule says, whatever is wrong with them.
 func TestAuditsOfHurtVolumes(t *testing.T) {
+	t.Parallel()
 	random := rand.New(rand.NewSource(202))
 	codes, told := map[int]int{}, [3]int{}
 	for round := range 1200 {

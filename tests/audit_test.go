@@ -380,6 +380,7 @@ func TestEveryBitOfTheMap(t *testing.T) {
 
 // The same on the greatest volume, whose map has sixteen blocks and Single.
 func TestBitsOfAGreatMap(t *testing.T) {
+	t.Parallel()
 	image := settledAlbum(t, 2048)
 	list, _ := impl.Reach(image, 0)
 	for _, b := range append(list, 2, 63, 64, 127, 128, 511, 512, 1023, 1024, 1535, 1536, 1537, 1663, 1664, 2046, 2047) {

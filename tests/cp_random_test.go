@@ -108,6 +108,7 @@ func TestConsistencyPointsAtRandom(t *testing.T) {
 
 // Hurt volumes are planned as the rule says, whatever is wrong with them.
 func TestPlansOfHurtVolumes(t *testing.T) {
+	t.Parallel()
 	random := rand.New(rand.NewSource(113))
 	codes := map[int]int{}
 	for round := range 1500 {

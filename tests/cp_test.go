@@ -866,6 +866,7 @@ func TestTreesThatArePutInPieces(t *testing.T) {
 
 // Maps in which all or much is free that isn't.
 func TestMapsMadeByHand(t *testing.T) {
+	t.Parallel()
 	for _, n := range []int{64, 130, 300, 1600, 2048} {
 		m := newMason(n)
 		p := example()

@@ -292,6 +292,7 @@ func TestLastBlocksOfEmptySlots(t *testing.T) {
 
 // Every change of one byte of a small directory is taken or refused by the rule.
 func TestChangedBytesOfADirectory(t *testing.T) {
+	t.Parallel()
 	whole := append(dirOf(nil, slotOf("ab", 999, 3), slotOf("ac", 2, 1), slotOf(strings.Repeat("x", 26), 3, 2)), dirOf(nil, slotOf("b", 3, 1))...)
 	right := 0
 	for at := range whole {

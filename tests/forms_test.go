@@ -456,6 +456,7 @@ func TestOneChangedBitIsRefused(t *testing.T) {
 // Whatever a decoder accepts is just what its encoder lays down. Each byte
 // takes every value; where there is a sum it is made right again.
 func TestDecodersAcceptOnlyWhatEncodersWrite(t *testing.T) {
+	t.Parallel()
 	for k, f := range forms() {
 		for _, b := range nearlyRight(f) {
 			bytesOfSum := 0

@@ -565,6 +565,7 @@ func hurtLog(random *rand.Rand, log []byte) []byte {
 }
 
 func TestLogsAtRandom(t *testing.T) {
+	t.Parallel()
 	random := rand.New(rand.NewSource(14))
 	for range 400 {
 		ops := make([]impl.Op, random.Intn(6))

@@ -15,7 +15,7 @@ import (
 // While the power is off all but Fuse and Crash is refused, and a Fuse does nothing.
 func TestOperationsWhileThePowerIsOff(t *testing.T) {
 	m := wellUsed(t, 0, 8192)
-	dark := append(eachKind(), impl.Op{Kind: impl.OpSend}, impl.Op{Kind: impl.OpReceive}, impl.Op{Kind: 0}, impl.Op{Kind: 28}, impl.Op{Kind: -1}, impl.Op{Kind: math.MaxInt},
+	dark := append(eachKind(), impl.Op{Kind: 0}, impl.Op{Kind: 28}, impl.Op{Kind: -1}, impl.Op{Kind: math.MaxInt},
 		by(-1, 70000, on(impl.OpCreate, "/x")), by(5, 5, point), on(impl.OpCreate, "/.snapshot", -1))
 	ops, codes := []impl.Op{on(impl.OpCreate, "/a"), fuseOf(6), point}, []int{0, 0, impl.ErrPower}
 	for _, op := range dark {
@@ -108,9 +108,24 @@ func sectorsOf(t *testing.T, m impl.Machine, ops []impl.Op) int {
 
 // story is a list of operations that write; each is done.
 func story() []impl.Op {
-	return []impl.Op{on(impl.OpMkdir, "/d", 511), on(impl.OpCreate, "/d/f", 420), writing("/d/f", 0, strings.Repeat("abc", 700)), point, writing("/d/f", 1500, "changed"), two(impl.OpSymlink, "/l", "d/f"),
+	k := newKeeper()
+	ops := []impl.Op{on(impl.OpMkdir, "/d", 511), on(impl.OpCreate, "/d/f", 420), writing("/d/f", 0, strings.Repeat("abc", 700)), point, writing("/d/f", 1500, "changed"), two(impl.OpSymlink, "/l", "d/f"),
 		{Kind: impl.OpSnapCreate, Path: "one"}, on(impl.OpTruncate, "/l", 600), two(impl.OpRename, "/d/f", "/g"), point, {Kind: impl.OpSnapRestore, Path: "one"}, on(impl.OpChmod, "/d", 0), on(impl.OpUnlink, "/l"),
 		{Kind: impl.OpSnapDelete, Path: "one"}, on(impl.OpCreate, "/end", 420), point}
+	// A stream for the state that there is, with a Clock that is far ahead, and one that
+	// finds operations ahead of it which aren't safe yet.
+	next := k.following(ops...).following(writing("/end", 600, "from elsewhere"), on(impl.OpUnlink, "/d/f"), on(impl.OpMkdir, "/late", 0o700)).s
+	ops = append(ops, receiving(streamOf(k.following(ops...).s, withClock(next, 90))), on(impl.OpMkdir, "/late/d", 0o700), writing("/end", 0, letters(700)))
+	return append(ops, receiving(streamOf(k.following(ops...).s, next)), on(impl.OpCreate, "/late/f", 0o600))
+}
+
+// streamOf is the stream between two right states.
+func streamOf(a, b impl.State) []byte {
+	stream, code := plainDiff(a, b)
+	if code != impl.OK {
+		panic("the test's own states aren't right")
+	}
+	return stream
 }
 
 // statesOf are the states behind each operation of a story, that ahead of all first; a
@@ -132,6 +147,8 @@ func statesOf(t *testing.T, ops []impl.Op) []impl.State {
 			if op.Kind == impl.OpSnapCreate {
 				snaps[op.Path] = s
 			}
+		case op.Kind == impl.OpReceive:
+			s = received(s, op.Data)
 		}
 		list = append(list, s)
 	}
@@ -158,6 +175,7 @@ func soundMap(t *testing.T, name string, m impl.Machine) {
 // Promise 16: with a log no operation that was answered OK is lost, at whichever sector
 // write the power fails, and however often it fails in mounting.
 func TestNothingIsLostWithALog(t *testing.T) {
+	t.Parallel()
 	random := rand.New(rand.NewSource(133))
 	ops := story()
 	states := statesOf(t, ops)
@@ -201,6 +219,7 @@ func TestNothingIsLostWithALog(t *testing.T) {
 
 // Promise 17: without a log the state is that of a consistency point, whole.
 func TestWholePointsWithoutALog(t *testing.T) {
+	t.Parallel()
 	random := rand.New(rand.NewSource(134))
 	ops := story()
 	states := statesOf(t, ops)
@@ -243,6 +262,7 @@ func TestWholePointsWithoutALog(t *testing.T) {
 // The power fails at every sector write of mounting itself, again and again, until it has
 // what it needs: with a log to be done again, and with the one or the other copy torn.
 func TestThePowerFailsInMounting(t *testing.T) {
+	t.Parallel()
 	random := rand.New(rand.NewSource(135))
 	ops := []impl.Op{on(impl.OpMkdir, "/d", 511), on(impl.OpCreate, "/d/f", 420), writing("/d/f", 0, strings.Repeat("abc", 400))}
 	m := made(t, 64, 0, 8192)

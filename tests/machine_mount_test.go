@@ -301,6 +301,11 @@ func TestOperationsOfTheLogThatAreRefused(t *testing.T) {
 		}
 		bad[fmt.Sprint("kind ", kind)] = op
 	}
+	// A stream for the state that comes ahead of it, and for the one that is there first.
+	later := newKeeper().following(uses()...).following(first...).s
+	bad["a stream"] = receiving(streamOf(later, becomes(t, later, on(impl.OpUnlink, "/l"))))
+	bad["a stream of nothing"] = receiving(streamOf(later, later))
+	bad["a stream for what was"] = receiving(streamOf(begun, becomes(t, begun, on(impl.OpUnlink, "/l"))))
 	for name, op := range bad {
 		ops := append(slices.Clone(first), op, on(impl.OpCreate, "/c"), on(impl.OpUnlink, "/a"))
 		replays(t, name, withLog(m, f.Ops+1, ops...), begun, ops, 2)

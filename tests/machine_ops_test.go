@@ -343,11 +343,10 @@ func quietRun(random *rand.Rand, m impl.Machine, many int) []impl.Op {
 	for range many {
 		op := anyMachineOp(random, b.s, false)
 		if op.Kind < impl.OpMkdir || op.Kind > impl.OpSeek {
-			op = impl.Op{Kind: []int{impl.OpSnapList, impl.OpCp, impl.OpStatfs, impl.OpSend}[random.Intn(4)]}
+			names := []string{"", "", "s0", "s1", "s2"}
+			op = impl.Op{Kind: []int{impl.OpSnapList, impl.OpCp, impl.OpStatfs, impl.OpSend}[random.Intn(4)], Path: names[random.Intn(5)], Path2: names[random.Intn(5)]}
 		}
-		if op.Kind != impl.OpSend {
-			b.answer(op)
-		}
+		b.answer(op)
 		ops = append(ops, op)
 	}
 	return ops
@@ -355,8 +354,9 @@ func quietRun(random *rand.Rand, m impl.Machine, many int) []impl.Op {
 
 // Promise 15: the answers are those of ApplyOp on a state alone, but for ErrNoSpace.
 func TestAnswersAreThoseOfAStateAlone(t *testing.T) {
+	t.Parallel()
 	random := rand.New(rand.NewSource(136))
-	full, done := 0, 0
+	full, done, streams := 0, 0, 0
 	for round := range 30 {
 		m, many := anyVolume(t, random), 150
 		switch {
@@ -375,6 +375,9 @@ func TestAnswersAreThoseOfAStateAlone(t *testing.T) {
 		for k, op := range ops {
 			_, one := plainSnapshotPath(op.Path)
 			_, other := plainSnapshotPath(op.Path2)
+			if op.Kind == impl.OpSend && out.Answers[k].Code == impl.OK {
+				streams++
+			}
 			if op.Kind > impl.OpSeek || one || other && (op.Kind == impl.OpLink || op.Kind == impl.OpRename) {
 				continue
 			}
@@ -395,13 +398,14 @@ func TestAnswersAreThoseOfAStateAlone(t *testing.T) {
 			t.Fatalf("round %d: another state is left", round)
 		}
 	}
-	if full < 20 || done < 1000 {
-		t.Errorf("%d operations found no room, %d were done", full, done)
+	if full < 20 || done < 1000 || streams < 50 {
+		t.Errorf("%d operations found no room, %d were done, %d streams were sent", full, done, streams)
 	}
 }
 
 // Promise 23: a run in two parts that meet behind a consistency point answers as one.
 func TestRunsInTwoParts(t *testing.T) {
+	t.Parallel()
 	random := rand.New(rand.NewSource(137))
 	points := map[int]int{}
 	for round := range 25 {
@@ -416,7 +420,7 @@ func TestRunsInTwoParts(t *testing.T) {
 		whole := impl.Run(m, ops)
 		for cut, ans := range whole.Answers {
 			kind := ops[cut].Kind
-			if ans.Code != impl.OK || kind != impl.OpCp && (kind < impl.OpSnapCreate || kind > impl.OpSnapRestore) {
+			if ans.Code != impl.OK || kind != impl.OpCp && kind != impl.OpReceive && (kind < impl.OpSnapCreate || kind > impl.OpSnapRestore) {
 				continue
 			}
 			points[kind]++
@@ -435,7 +439,7 @@ func TestRunsInTwoParts(t *testing.T) {
 			}
 		}
 	}
-	for kind, least := range map[int]int{impl.OpCp: 80, impl.OpSnapCreate: 10, impl.OpSnapDelete: 3, impl.OpSnapRestore: 3} {
+	for kind, least := range map[int]int{impl.OpCp: 80, impl.OpReceive: 10, impl.OpSnapCreate: 10, impl.OpSnapDelete: 3, impl.OpSnapRestore: 3} {
 		if points[kind] < least {
 			t.Errorf("points %v", points)
 		}

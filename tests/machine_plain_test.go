@@ -183,8 +183,10 @@ func (b *plainBox) asked(op impl.Op, again bool) impl.Ans {
 		return impl.Ans{Code: b.point(impl.Act{})}
 	case op.Kind == impl.OpStatfs:
 		return b.statfs()
+	case op.Kind == impl.OpSend:
+		return b.send(op)
 	}
-	panic("the test's own machine has no streams")
+	return b.receive(op)
 }
 
 func plainSnapshotPath(path string) ([]string, bool) {
@@ -383,6 +385,52 @@ func (b *plainBox) statfs() impl.Ans {
 		}
 	}
 	return impl.Ans{Usage: u}
+}
+
+func (b *plainBox) send(op impl.Op) impl.Ans {
+	from, to, code := impl.NewState(), b.s, impl.OK
+	if op.Path != "" {
+		if from, code = impl.LoadSnap(b.image(), op.Path); code != impl.OK {
+			return impl.Ans{Code: code}
+		}
+	}
+	if op.Path2 != "" {
+		if to, code = impl.LoadSnap(b.image(), op.Path2); code != impl.OK {
+			return impl.Ans{Code: code}
+		}
+	}
+	stream, code := plainDiff(from, to)
+	if code == impl.OK && len(stream) > 1048576 {
+		code = impl.ErrLarge
+	}
+	return impl.Ans{Code: code, N: len(stream), Data: stream}
+}
+
+func (b *plainBox) receive(op impl.Op) impl.Ans {
+	if len(op.Data) > 1048576 {
+		return impl.Ans{Code: impl.ErrLarge}
+	}
+	next, code := plainPatch(b.s, op.Data)
+	if code != impl.OK {
+		return impl.Ans{Code: code}
+	}
+	greater := max(b.s.Clock, next.Clock)
+	if greater == impl.MaxClock || b.ops == impl.MaxClock {
+		return impl.Ans{Code: impl.ErrRange}
+	}
+	next.Clock = greater + 1
+	if room, code := impl.Room(b.image(), next); code != impl.OK {
+		return impl.Ans{Code: code}
+	} else if room < 12 {
+		return impl.Ans{Code: impl.ErrNoSpace}
+	}
+	s, ops := b.s, b.ops
+	b.s, b.ops = next, b.ops+1
+	code = b.point(impl.Act{})
+	if code != impl.OK && code != impl.ErrPower {
+		b.s, b.ops = s, ops
+	}
+	return impl.Ans{Code: code}
 }
 
 func plainRightMachine(m impl.Machine) bool {

@@ -21,8 +21,30 @@ func anyChoice(random *rand.Rand) []byte {
 	return choice
 }
 
-// anyMachineOp is an operation of any kind but the streams; power says whether it may
-// fail.
+// anyStream is a stream for a state, or nearly.
+func anyStream(random *rand.Rand, s impl.State) []byte {
+	from, to := s, later(random, s, 1+random.Intn(5))
+	switch random.Intn(8) {
+	case 0:
+		from = impl.NewState()
+	case 1:
+		to = remade(random, to)
+	case 2:
+		to = impl.NewState()
+	case 3:
+		to = withClock(to, min(to.Clock+random.Intn(100), impl.MaxClock))
+	}
+	stream, code := plainDiff(from, to)
+	if code != impl.OK {
+		panic("the test's own states aren't right")
+	}
+	if random.Intn(10) == 0 {
+		stream[random.Intn(len(stream))]++
+	}
+	return stream
+}
+
+// anyMachineOp is an operation of any kind; power says whether it may fail.
 func anyMachineOp(random *rand.Rand, s impl.State, power bool) impl.Op {
 	op := anyOp(random, s)
 	switch k := random.Intn(100); {
@@ -51,8 +73,13 @@ func anyMachineOp(random *rand.Rand, s impl.State, power bool) impl.Op {
 		op = impl.Op{Kind: impl.OpFuse, A: random.Intn(60) - 2}
 	case k < 50 && power:
 		op = impl.Op{Kind: impl.OpCrash, A: random.Intn(60) - 20, Data: anyChoice(random), Uid: random.Intn(2) * 70000}
+	case k < 53:
+		names := []string{"", "", "s0", "s1", "s2", "s3"}
+		op = impl.Op{Kind: impl.OpSend, Path: names[random.Intn(6)], Path2: names[random.Intn(6)], Gid: random.Intn(3)}
+	case k < 58:
+		op = impl.Op{Kind: impl.OpReceive, Data: anyStream(random, s), Gid: random.Intn(3)}
 	}
-	if op.Kind == impl.OpSend || op.Kind == impl.OpReceive || !power && (op.Kind == impl.OpFuse || op.Kind == impl.OpCrash) {
+	if !power && (op.Kind == impl.OpFuse || op.Kind == impl.OpCrash) {
 		op.Kind = impl.OpList
 	}
 	return op
@@ -82,9 +109,10 @@ func someRun(random *rand.Rand, m impl.Machine, many int, power bool) []impl.Op 
 
 // Runs, one behind the other, each on the machine of the one before.
 func TestRunsAtRandom(t *testing.T) {
+	t.Parallel()
 	random := rand.New(rand.NewSource(131))
 	seen, codes := map[[2]int]int{}, map[int]int{}
-	for round := range 60 {
+	for round := range 75 {
 		m := anyVolume(t, random)
 		for part := range 3 {
 			name := fmt.Sprint("round ", round, ", part ", part)
@@ -101,7 +129,7 @@ func TestRunsAtRandom(t *testing.T) {
 		}
 	}
 	for kind := 1; kind <= impl.OpCrash; kind++ {
-		if kind != impl.OpSend && kind != impl.OpReceive && seen[[2]int{kind, impl.OK}] < 8 {
+		if seen[[2]int{kind, impl.OK}] < 8 {
 			t.Errorf("kind %d was done only %d times", kind, seen[[2]int{kind, impl.OK}])
 		}
 	}
@@ -117,6 +145,7 @@ func TestRunsAtRandom(t *testing.T) {
 
 // Hurt machines are mounted and used as the rule says, whatever is wrong with them.
 func TestRunsOfHurtMachines(t *testing.T) {
+	t.Parallel()
 	random := rand.New(rand.NewSource(132))
 	codes := map[int]int{}
 	for round := range 300 {

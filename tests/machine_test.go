@@ -239,19 +239,25 @@ func TestKindsOfTheMachine(t *testing.T) {
 // consistency point.
 func wellUsed(t *testing.T, every, log int) impl.Machine {
 	t.Helper()
-	ops := []impl.Op{on(impl.OpMkdir, "/d", 0o777), on(impl.OpMkdir, "/d/e", 0o777), on(impl.OpCreate, "/d/f", 0o666), writing("/d/f", 0, "hello"), two(impl.OpSymlink, "/l", "d/f"),
-		on(impl.OpChmod, "/", 0o777), {Kind: impl.OpSnapCreate, Path: "one"}, writing("/d/f", 5, " world"), point}
-	return codesAre(t, "well used", made(t, 64, every, log), ops, 0, 0, 0, 0, 0, 0, 0, 0, 0).Machine
+	return codesAre(t, "well used", made(t, 64, every, log), uses(), 0, 0, 0, 0, 0, 0, 0, 0, 0).Machine
 }
 
-// eachKind has an operation of every kind but Fuse, Crash and the streams that is done on
-// the machine of wellUsed, by the user 0.
+func uses() []impl.Op {
+	return []impl.Op{on(impl.OpMkdir, "/d", 0o777), on(impl.OpMkdir, "/d/e", 0o777), on(impl.OpCreate, "/d/f", 0o666), writing("/d/f", 0, "hello"), two(impl.OpSymlink, "/l", "d/f"),
+		on(impl.OpChmod, "/", 0o777), {Kind: impl.OpSnapCreate, Path: "one"}, writing("/d/f", 5, " world"), point}
+}
+
+// eachKind has an operation of every kind but Fuse and Crash that is done on the machine of
+// wellUsed, by the user 0.
 func eachKind() []impl.Op {
+	begun := newKeeper().following(uses()...)
+	stream := streamOf(begun.s, begun.following(on(impl.OpMkdir, "/sent", 0o700), on(impl.OpUnlink, "/l")).s)
 	return []impl.Op{
 		on(impl.OpMkdir, "/m", 0o755), on(impl.OpCreate, "/c", 0o644), two(impl.OpSymlink, "/s", "/.snapshot/one"), two(impl.OpLink, "/d/f", "/h"), on(impl.OpUnlink, "/l"), on(impl.OpRmdir, "/d/e"),
 		two(impl.OpRename, "/d/f", "/g"), writing("/l", 3, "LO W"), on(impl.OpTruncate, "/d/f", 4), on(impl.OpChmod, "/l", 0o600), on(impl.OpChown, "/l", 65535, 7),
 		on(impl.OpRead, "/l", 2, 5), on(impl.OpReadlink, "/l"), on(impl.OpStat, "/l"), on(impl.OpLstat, "/l"), on(impl.OpList, "/d"), on(impl.OpSeek, "/l", 0, 1),
 		{Kind: impl.OpSnapCreate, Path: "two"}, {Kind: impl.OpSnapDelete, Path: "one"}, {Kind: impl.OpSnapRestore, Path: "one"}, {Kind: impl.OpSnapList}, {Kind: impl.OpCp}, {Kind: impl.OpStatfs},
+		sending("one", ""), receiving(stream),
 	}
 }
 
@@ -259,7 +265,7 @@ func isSuper(kind int) bool { return slices.Contains([]int{18, 19, 20, 22, 24, 2
 
 func TestUsersOfTheMachine(t *testing.T) {
 	m := wellUsed(t, 0, 8192)
-	for _, op := range append(eachKind(), impl.Op{Kind: impl.OpSend, Path: "nobody"}, impl.Op{Kind: impl.OpReceive, Data: make([]byte, impl.MaxStream+1)}) {
+	for _, op := range eachKind() {
 		for _, user := range [][2]int{{-1, 0}, {0, -1}, {65536, 0}, {0, 65536}, {math.MinInt, 0}, {0, math.MaxInt}, {-1, 65536}} {
 			bad := by(user[0], user[1], op)
 			// A snapshot path and a wrong mode are asked for later.
@@ -275,10 +281,8 @@ func TestUsersOfTheMachine(t *testing.T) {
 			if isSuper(op.Kind) && user[0] != 0 && (!sameAns(out.Answers[0], impl.Ans{Code: impl.ErrPerm}) || !sameMachine(out.Machine, m)) {
 				t.Errorf("user %v (%s): %s", user, tellOp(op), tellAns(out.Answers[0]))
 			}
-			if op.Kind < impl.OpSend {
-				runs(t, fmt.Sprint("user ", user), m, []impl.Op{good, statfs})
-			}
-			if want := map[int]int{impl.OpSend: impl.ErrNoEnt, impl.OpReceive: impl.ErrLarge}[op.Kind]; user[0] == 0 && out.Answers[0].Code != want {
+			runs(t, fmt.Sprint("user ", user), m, []impl.Op{good, statfs})
+			if user[0] == 0 && out.Answers[0].Code != impl.OK {
 				t.Errorf("user %v (%s): %s", user, tellOp(op), tellAns(out.Answers[0]))
 			}
 		}

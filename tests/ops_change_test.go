@@ -244,6 +244,7 @@ func TestAccessOfRenaming(t *testing.T) {
 }
 
 func TestRenamingAtRandom(t *testing.T) {
+	t.Parallel()
 	random := rand.New(rand.NewSource(91))
 	done := 0
 	for round := range 400 {
@@ -605,6 +606,7 @@ func anyOp(random *rand.Rand, s impl.State) impl.Op {
 // All kinds, one behind the other, from any state on: each is held against the
 // rule, and each state is right.
 func TestOperationsAtRandom(t *testing.T) {
+	t.Parallel()
 	random := rand.New(rand.NewSource(95))
 	seen := map[[2]int]int{}
 	for round := range 500 {

@@ -121,6 +121,7 @@ func crowdWith(has standing) (*planter, bool) {
 }
 
 func TestOrderOfFaultsOfNewNodes(t *testing.T) {
+	t.Parallel()
 	for _, kind := range []int{impl.OpMkdir, impl.OpCreate, impl.OpSymlink} {
 		own := []trouble{{"args", impl.ErrInval}, {"path", impl.ErrNameLong}, {"exist", impl.ErrExist}, {"rofs", impl.ErrRofs}, {"access", impl.ErrAccess}}
 		if kind == impl.OpMkdir {
@@ -152,6 +153,7 @@ func TestOrderOfFaultsOfNewNodes(t *testing.T) {
 }
 
 func TestOrderOfFaultsOfLink(t *testing.T) {
+	t.Parallel()
 	own := []trouble{
 		{"path", impl.ErrNameLong}, {"perm", impl.ErrPerm}, {"path2", impl.ErrBusy}, {"exist", impl.ErrExist}, {"rofs", impl.ErrRofs}, {"access", impl.ErrAccess}, {"many", impl.ErrMlink}, {"fbig", impl.ErrFbig},
 	}
@@ -357,6 +359,7 @@ func (p *planter) modes(d, a, e int, has standing) {
 }
 
 func TestOrderOfFaultsOfRename(t *testing.T) {
+	t.Parallel()
 	first := []trouble{
 		{"path", impl.ErrNameLong}, {"path2", impl.ErrBusy}, {"noent", impl.ErrNoEnt}, {"access d", impl.ErrAccess}, {"access e", impl.ErrAccess}, {"perm a", impl.ErrPerm}, {"perm b", impl.ErrPerm}, {"rofs", impl.ErrRofs},
 	}

@@ -101,6 +101,7 @@ func (k keeper) glimpsed(t *testing.T, name string, answers []impl.Ans) {
 // point, whatever survives: all snapshots are whole, and the one in flight is as it was or
 // as it is to be.
 func TestCrashesInPointsOfSnapshots(t *testing.T) {
+	t.Parallel()
 	random := rand.New(rand.NewSource(181))
 	for _, v := range ventures(t) {
 		for sectors := range v.all + 2 {
@@ -134,6 +135,7 @@ func TestCrashesInPointsOfSnapshots(t *testing.T) {
 // The power is off when the run ends: then mounting finds what a crash finds that loses
 // all of the cache.
 func TestRunsThatEndInPointsOfSnapshots(t *testing.T) {
+	t.Parallel()
 	for _, v := range ventures(t) {
 		for sectors := 0; sectors < v.all+2; sectors += 3 {
 			name := fmt.Sprintf("%s, %d of %d sector writes", v.name, sectors, v.all)
@@ -152,6 +154,7 @@ func TestRunsThatEndInPointsOfSnapshots(t *testing.T) {
 // The power fails in mounting too, at every sector write of what the log does again, and
 // then again and again.
 func TestCrashesInMountingOfSnapshots(t *testing.T) {
+	t.Parallel()
 	random := rand.New(rand.NewSource(182))
 	for _, v := range ventures(t) {
 		if infoLog(v.m) == 0 {

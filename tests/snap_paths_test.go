@@ -100,6 +100,7 @@ func TestLookingAtTheDirectoryOfSnapshots(t *testing.T) {
 // At a snapshot and below it: what is told is what its state tells at the path of the
 // other names.
 func TestLookingIntoASnapshot(t *testing.T) {
+	t.Parallel()
 	m, s, _ := gallery(t, 8192)
 	users := [][2]int{{5, 6}, {7, 6}, {7, 7}}
 	for path, inside := range map[string]string{

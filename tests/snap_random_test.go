@@ -60,6 +60,8 @@ func mustLeave(s impl.State, op impl.Op) (int, bool) {
 	switch {
 	case op.Kind == impl.OpSnapCreate:
 		return 13, true
+	case op.Kind == impl.OpReceive:
+		return 12, true
 	case op.Kind < impl.OpMkdir || op.Kind > impl.OpChown:
 		return 0, false
 	case op.Kind == impl.OpUnlink || op.Kind == impl.OpRmdir:
@@ -77,14 +79,16 @@ func mustLeave(s impl.State, op impl.Op) (int, bool) {
 func scarce(t *testing.T, name string, b *plainBox, op impl.Op, behind bool) int {
 	t.Helper()
 	before, gen, loose := b.s, b.record.Gen, b.record.Snaps == [31]int{}
+	image, next := b.image(), keeper{s: b.s}.behind(op).s
 	code := b.answer(op).Code
 	least, asked := mustLeave(before, op)
 	switch {
-	case code == impl.ErrNoSpace:
-		next := before
-		if op.Kind <= impl.OpChown {
-			next, _ = plainApply(before, op)
+	case op.Kind == impl.OpReceive && (code == impl.OK || code == impl.ErrNoSpace):
+		// Its own point follows: the room is that ahead of it.
+		if room, _ := plainRoom(image, next); (code == impl.OK) != (room >= least) {
+			t.Errorf("%s (%s): code %d, but there is room for %d", name, tellOp(op), code, room)
 		}
+	case code == impl.ErrNoSpace:
 		if room, _ := plainRoom(b.image(), next); !asked || room >= least {
 			t.Errorf("%s (%s): refused for space, but there is room for %d", name, tellOp(op), room)
 		}
@@ -140,6 +144,7 @@ func (k keeper) heard(t *testing.T, name string, ops []impl.Op, answers []impl.A
 // Promises 18, 19, 21 and 22: volumes that live with snapshots and little space, whose
 // power fails now and then, and that are emptied at the end.
 func TestSnapshotsAndSpaceAtRandom(t *testing.T) {
+	t.Parallel()
 	random := rand.New(rand.NewSource(183))
 	seen, inFlight := map[[2]int]int{}, map[string]int{}
 	for round := range 60 {
@@ -176,12 +181,12 @@ func TestSnapshotsAndSpaceAtRandom(t *testing.T) {
 		}
 		emptied(t, fmt.Sprint("round ", round), m, round%2 == 0)
 	}
-	for kind, least := range map[int]int{impl.OpSnapCreate: 200, impl.OpSnapDelete: 80, impl.OpSnapRestore: 60, impl.OpUnlink: 200, impl.OpTruncate: 100, -1: 150} {
+	for kind, least := range map[int]int{impl.OpReceive: 50, impl.OpSnapCreate: 200, impl.OpSnapDelete: 80, impl.OpSnapRestore: 60, impl.OpUnlink: 200, impl.OpTruncate: 100, -1: 150} {
 		if seen[[2]int{kind, impl.OK}] < least {
 			t.Errorf("kind %d was done only %d times", kind, seen[[2]int{kind, impl.OK}])
 		}
 	}
-	for kind, least := range map[int]int{impl.OpSnapCreate: 25, impl.OpWrite: 200, impl.OpCreate: 50} {
+	for kind, least := range map[int]int{impl.OpReceive: 10, impl.OpSnapCreate: 25, impl.OpWrite: 200, impl.OpCreate: 50} {
 		if seen[[2]int{kind, impl.ErrNoSpace}] < least {
 			t.Errorf("kind %d was refused for space only %d times", kind, seen[[2]int{kind, impl.ErrNoSpace}])
 		}

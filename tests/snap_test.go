@@ -17,6 +17,9 @@ func restoring(name string) impl.Op { return impl.Op{Kind: impl.OpSnapRestore, P
 
 var snapshots = impl.Op{Kind: impl.OpSnapList}
 
+func sending(from, to string) impl.Op { return two(impl.OpSend, from, to) }
+func receiving(stream []byte) impl.Op { return impl.Op{Kind: impl.OpReceive, Data: stream} }
+
 // keeper is what a machine should hold: a state, and those of its snapshots by name.
 type keeper struct {
 	s     impl.State
@@ -42,8 +45,20 @@ func (k keeper) behind(op impl.Op) keeper {
 		delete(next.snaps, op.Path)
 	case op.Kind == impl.OpSnapRestore:
 		next.s = withClock(k.snaps[op.Path], k.s.Clock+1)
+	case op.Kind == impl.OpReceive:
+		next.s = received(k.s, op.Data)
 	}
 	return next
+}
+
+// received is the state behind a stream that another one has received; as it was, if the
+// stream isn't for it.
+func received(s impl.State, stream []byte) impl.State {
+	next, code := plainPatch(s, stream)
+	if code != impl.OK {
+		return s
+	}
+	return withClock(next, max(s.Clock, next.Clock)+1)
 }
 
 // following is what should be held behind operations that have all been done.
@@ -356,6 +371,7 @@ func snapScenes(t *testing.T, kind int) func(what string, has standing, code int
 }
 
 func TestOrderOfFaultsOfSnapshots(t *testing.T) {
+	t.Parallel()
 	first := []trouble{{"power", impl.ErrPower}, {"kind", impl.ErrKind}, {"user", impl.ErrInval}, {"perm", impl.ErrPerm}}
 	counts := []trouble{{"clock", impl.ErrRange}, {"ops", impl.ErrRange}, {"step", impl.ErrRange}}
 	gen := trouble{"gen", impl.ErrRange}

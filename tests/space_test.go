@@ -134,6 +134,7 @@ func dear() map[int][]impl.Op {
 // Promise 21: each kind is refused for space just where Room says so: with what it must
 // leave, one more and one less, on volumes that were filled by operations alone.
 func TestWhatEachKindMustLeave(t *testing.T) {
+	t.Parallel()
 	for _, log := range []int{0, 65536} {
 		for _, snapshot := range []bool{false, true} {
 			l := newLarder(t, log, 0, snapshot)
@@ -186,6 +187,7 @@ func TestWhatEachKindMustLeave(t *testing.T) {
 // What refuses an operation itself, and what does nothing, comes ahead of the room, however
 // little is left.
 func TestRefusalsAheadOfTheRoom(t *testing.T) {
+	t.Parallel()
 	for _, log := range []int{0, 65536} {
 		l := newLarder(t, log, 0, true)
 		for _, c := range []struct {
@@ -243,6 +245,7 @@ func changeScenes(t *testing.T, op impl.Op, own string, blocks int) func(what st
 }
 
 func TestOrderOfFaultsOfChanges(t *testing.T) {
+	t.Parallel()
 	order := func(own int) []trouble {
 		return []trouble{{"power", impl.ErrPower}, {"kind", impl.ErrKind}, {"user", impl.ErrInval}, {"rofs", impl.ErrRofs}, {"own", own}, {"clock", impl.ErrRange}, {"ops", impl.ErrRange}, {"step", impl.ErrRange}, {"room", impl.ErrNoSpace}}
 	}
@@ -375,6 +378,7 @@ func TestTakingAwayOnAFullVolume(t *testing.T) {
 // Less, the same and more bytes when hardly anything is left: a shorter file and one of
 // the same length need no Slack, a longer one does, though it be of holes.
 func TestTruncatingOnAFullVolume(t *testing.T) {
+	t.Parallel()
 	for _, snapshot := range []bool{false, true} {
 		l := newLarder(t, 65536, 0, snapshot)
 		for _, c := range []struct {
@@ -403,6 +407,7 @@ func TestTruncatingOnAFullVolume(t *testing.T) {
 // be changed, not even taken away, but snapshots can be deleted and restored, and points
 // are made; then there is room again.
 func TestDeletingAndRestoringOnAFullVolume(t *testing.T) {
+	t.Parallel()
 	for _, log := range []int{0, 65536} {
 		l := newLarder(t, log, 0, true)
 		ops := l.squeezed(0)
@@ -524,6 +529,7 @@ func emptied(t *testing.T, name string, m impl.Machine, points bool) {
 // Promise 22: volumes of some sizes are filled until nothing more goes in, with snapshots
 // on the way, and emptied again.
 func TestFilledAndEmptied(t *testing.T) {
+	t.Parallel()
 	for _, blocks := range []int{64, 65, 128, 129, 200, 1537} {
 		for _, log := range []int{0, 8192} {
 			if blocks > 200 && log > 0 {

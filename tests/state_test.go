@@ -1172,6 +1172,7 @@ func TestTheLastName(t *testing.T) {
 }
 
 func TestWalkingAtRandom(t *testing.T) {
+	t.Parallel()
 	random := rand.New(rand.NewSource(83))
 	seen := map[int]int{}
 	for range 1500 {

@@ -447,6 +447,7 @@ func pointerOf(r *impl.Root, i int) *int {
 
 // At images of any words and roots of any pointers reading is by the plain rule.
 func TestReadingAtRandom(t *testing.T) {
+	t.Parallel()
 	random := rand.New(rand.NewSource(3))
 	codes := map[int]int{}
 	for round := range 600 {

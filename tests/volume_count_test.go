@@ -319,6 +319,7 @@ func TestRoomIsRefused(t *testing.T) {
 }
 
 func TestFormatOfEveryNumberOfBlocks(t *testing.T) {
+	t.Parallel()
 	for n := 64; n <= 2048; n++ {
 		image, code := impl.Format(n, n%1001, 0)
 		if code != impl.OK || !bytes.Equal(image, plainFormat(n, n%1001, 0)) {
@@ -422,6 +423,7 @@ func TestFormatIsRefused(t *testing.T) {
 
 // States that live, written against what they were some operations ago.
 func TestCountingAtRandom(t *testing.T) {
+	t.Parallel()
 	random := rand.New(rand.NewSource(103))
 	most := 0
 	for round := range 40 {
@@ -479,6 +481,7 @@ func hurt(random *rand.Rand, image []byte) {
 }
 
 func TestHurtVolumesAtRandom(t *testing.T) {
+	t.Parallel()
 	random := rand.New(rand.NewSource(104))
 	codes := [4]map[int]int{{}, {}, {}, {}}
 	for round := range 700 {

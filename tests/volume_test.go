@@ -322,6 +322,7 @@ func TestMapsThatAreNotRight(t *testing.T) {
 }
 
 func TestMapsThatCannotBeRead(t *testing.T) {
+	t.Parallel()
 	for _, n := range []int{1537, 1800, 2047, 2048} {
 		words := slices.Repeat([]int{1}, n)
 		image := mappedVolume(words)
@@ -555,6 +556,7 @@ func manyFiles(many int) *planter {
 }
 
 func TestStatesThatAreLoaded(t *testing.T) {
+	t.Parallel()
 	random := rand.New(rand.NewSource(102))
 	free := example()
 	free.Nodes = append(free.Nodes, make([]impl.Node, 60)...)
