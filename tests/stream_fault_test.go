@@ -96,7 +96,7 @@ func wrongForms() []mistake {
 	for _, n := range []int{0, 1, 1002, 1003, 1 << 16, 1 << 31, math.MaxUint32} {
 		add(fmt.Sprint(n, " nodes"), func(p *parcel) { p.nodes = n })
 	}
-	for _, n := range []int{0, 1, 9, 11, 1 << 16, 1 << 31, math.MaxUint32} {
+	for _, n := range []int{0, 1, 9, 11, 10 + 1<<8, 1010, 10 + 1<<16, 100010, 1 << 16, 10 + 1<<31, math.MaxUint32} {
 		add(fmt.Sprint(n, " records told"), func(p *parcel) { p.many = n })
 	}
 	add("a record too many told and none there", func(p *parcel) { p.records, p.many = nil, 1 })
@@ -125,7 +125,7 @@ func wrongForms() []mistake {
 		add(name+"no time", func(p *parcel) { put64(p.record(number).inode, 24, 0) })
 		add(name+"a time behind MaxClock", func(p *parcel) { put64(p.record(number).inode, 32, impl.MaxClock+1) })
 		add(name+"a pointer behind its blocks", func(p *parcel) { put32(p.record(number).inode, 48+4*11, 5) })
-		for _, many := range []int{1, 2, 1 << 16, math.MaxUint32} {
+		for _, many := range []int{1, 2, 1 << 8, 1000, 1 << 16, 100000, 1 << 31} {
 			add(fmt.Sprint(name, many, " blocks more told"), func(p *parcel) { p.record(number).many += many })
 		}
 		if number != 6 {
